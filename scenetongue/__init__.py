@@ -1,0 +1,1 @@
+"""Scenetongue: scenes told in texts, seen exactly."""
