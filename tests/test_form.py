@@ -20,6 +20,11 @@ WORDS = re.compile(
     r"\b(type|typing|typing_extensions|enum|Enum|IntEnum|StrEnum|Flag|IntFlag|Generic|Protocol|ABC|ABCMeta"
     r"|namedtuple|NamedTuple|TypedDict|TYPE_CHECKING|abstractmethod)\b|dataclass|overload|contextmanager"
 )
+METHODS = set(
+    "append clear copy count endswith extend find get index insert isalnum isalpha isdigit islower isspace isupper "
+    "items join keys ljust lower lstrip partition pop remove replace reverse rfind rjust rpartition rsplit rstrip "
+    "setdefault split splitlines startswith strip update upper values zfill bit_length removeprefix removesuffix".split()
+)
 BARRED = (ast.Global, ast.AsyncFunctionDef, ast.AsyncFor, ast.AsyncWith, ast.Await, ast.Div, ast.Import)
 MODULE_LEVEL = (ast.Expr, ast.ImportFrom, ast.FunctionDef, ast.ClassDef, ast.Assign, ast.AnnAssign)
 
@@ -116,6 +121,74 @@ class Form(unittest.TestCase):
             if isinstance(node, ast.Name) and node.id in every:
                 self.assertIn(node.id, BUILTINS, name)
                 self.assertIsInstance(node.ctx, ast.Load, (name, node.id))
+        for name, tree in TREES.items():
+            for bound in plain_names(tree):
+                self.assertNotIn(bound, every, name)
+
+    def test_no_name_of_an_import_or_a_class_is_bound_again(self):
+        for name, tree in TREES.items():
+            taken = {alias.name for node in imports_of(tree) for alias in node.names}
+            taken |= {node.name for node in tree.body if isinstance(node, ast.ClassDef)}
+            for function in ast.walk(tree):
+                if isinstance(function, ast.FunctionDef):
+                    self.assertFalse(taken & set(local_names(function)), (name, function.name))
+
+    def test_methods_and_attributes(self):
+        methods, attributes = set(), set()
+        for name, node in nodes():
+            if isinstance(node, ast.ClassDef):
+                methods |= {row.name for row in node.body if isinstance(row, ast.FunctionDef)}
+            if isinstance(node, ast.Attribute) and isinstance(node.ctx, ast.Store):
+                attributes.add(node.attr)
+        self.assertFalse(methods & attributes)
+        taken = {word for kind in (str, int, list, dict, set, bytes, tuple) for word in dir(kind)}
+        self.assertFalse({word for word in methods | attributes if not word.startswith("__")} & taken)
+        for name, node in nodes():
+            if isinstance(node, ast.Attribute) and not node.attr.startswith("__"):
+                self.assertIn(node.attr, methods | attributes | METHODS, name)
+
+    def test_signs(self):
+        for name, node in nodes():
+            if isinstance(node, ast.Constant) and isinstance(node.value, str):
+                self.assertNotIn("%", node.value, name)
+            if isinstance(node, ast.BinOp) and isinstance(node.op, ast.Pow):
+                self.assertIsInstance(node.right, ast.Constant, name)
+            if isinstance(node, ast.Compare):
+                for sign, other in zip(node.ops, node.comparators):
+                    if isinstance(sign, (ast.Is, ast.IsNot)):
+                        self.assertIsInstance(other, ast.Constant, name)
+                        self.assertIn(repr(other.value), ("None", "True", "False"), name)
+            # Lists stand in any, all and the like, as they must once a class has an __eq__.
+            self.assertNotIsInstance(node, (ast.GeneratorExp, ast.Set, ast.SetComp, ast.NamedExpr), name)
+
+    def test_what_stands_at_module_level_is_written_out(self):
+        for name, tree in TREES.items():
+            for node in tree.body:
+                if isinstance(node, ast.Assign):
+                    ast.literal_eval(node.value)
+
+
+def local_names(function):
+    """Each parameter and local variable of a function, those of what is nested in it, too."""
+    for node in ast.walk(function):
+        if isinstance(node, ast.arg):
+            yield node.arg
+        elif isinstance(node, ast.Name) and not isinstance(node.ctx, ast.Load):
+            yield node.id
+        elif isinstance(node, ast.FunctionDef) and node != function:
+            yield node.name
+
+
+def plain_names(tree):
+    """Each name that the tree binds, but for attributes and methods."""
+    for node in tree.body:
+        if isinstance(node, (ast.FunctionDef, ast.ClassDef)):
+            yield node.name
+        elif isinstance(node, ast.Assign):
+            yield from (target.id for target in node.targets)
+    for node in ast.walk(tree):
+        if isinstance(node, ast.FunctionDef):
+            yield from local_names(node)
 
 
 if __name__ == "__main__":
