@@ -2,8 +2,8 @@
 
 A moment along such a way is a tuple (plain, part, under, below): plain and part times the root of under, together
 by below. part is -1, 0 or 1, the others are numbers of one storey, below above nought."""
-from scenetongue.fractions import dot, frac, minus, over, plus, times
-from scenetongue.points import NOWHERE, stretched, together, way_between
+from scenetongue.fractions import frac, over
+from scenetongue.points import stretched, together
 from scenetongue.slabs import ball_of, slabs_of
 from scenetongue.spans import ALWAYS, directed, met, rows_in
 from scenetongue.towers import Rooted, Whole
@@ -24,29 +24,38 @@ def order_of(storey, one, other):
 
 
 def whole_numbers(numbers):
-    """Fractions, all times one number above nought that makes them whole."""
+    """Fractions made whole: a list of them, all times one whole number above nought, and that number."""
     shared = 1
     for number in numbers:
         shared = frac(shared, number[1])[0] * number[1]
-    return [number[0] * (shared // number[1]) for number in numbers]
+    return ([number[0] * (shared // number[1]) for number in numbers], shared)
+
+
+def whole_dot(one, other):
+    """The sum of the products of two rows of whole numbers, place by place."""
+    return one[0] * other[0] + one[1] * other[1] + one[2] * other[2]
 
 
 class Sightline:
-    """The ray from a ray's place at a root number, with the way to a point. Its place and its way are pairs of tuples
-    of three fractions: the plain parts, and those that are taken times the root of a whole number."""
+    """The ray from a ray's place at a root number, with the way to a point. Its place and its way are told times
+    scale, so that they are whole: pairs of three whole numbers each, the plain parts, and those that are taken times
+    the root of a whole number."""
 
     def __init__(self, ray, t, goal):
         start, along = ray
         plain, part, under = t
         # The root of u by v is the root of u v, by v.
         self.storey = Rooted(Whole(), under[0] * under[1])
-        self.place = (together(start, stretched(along, plain)), stretched(along, over(part, (under[1], 1))))
-        self.way = (way_between(self.place[0], goal), way_between(self.place[1], NOWHERE))
+        here = together(start, stretched(along, plain))
+        beside = stretched(along, over(part, (under[1], 1)))
+        # Whole numbers from here on: lowest terms of what is reckoned now would be costly, and aren't needed.
+        numbers, self.scale = whole_numbers([*here, *beside, *goal])
+        self.place = (numbers[0:3], numbers[3:6])
+        self.way = ([to - at for at, to in zip(numbers[0:3], numbers[6:9])], [-at for at in numbers[3:6]])
 
     def has_no_way(self):
         """Whether the place is the point itself."""
-        pairs = [whole_numbers([plain, part]) for plain, part in zip(self.way[0], self.way[1])]
-        return all([self.storey.sign(pair) == 0 for pair in pairs])
+        return all([self.storey.sign(pair) == 0 for pair in zip(self.way[0], self.way[1])])
 
     def gap(self, start, side):
         """What leads from a number to a whole number."""
@@ -62,12 +71,12 @@ class Sightline:
     def slab_span(self, slab):
         """The stretch between the sides of a slab."""
         across, low, high = slab[0], slab[1], slab[2]
-        ways = [dot(across, one) for one in (*self.place, *self.way)]
         # Where there is no low, high stands in its place, and isn't used.
-        numbers = whole_numbers([*ways, high, high if low is None else low])
-        start, slope = (numbers[0], numbers[1]), (numbers[2], numbers[3])
-        to_low = None if low is None else self.gap(start, numbers[5])
-        to_high = self.gap(start, numbers[4])
+        numbers = whole_numbers([*across, high, high if low is None else low])[0]
+        start = (whole_dot(numbers[:3], self.place[0]), whole_dot(numbers[:3], self.place[1]))
+        slope = (whole_dot(numbers[:3], self.way[0]), whole_dot(numbers[:3], self.way[1]))
+        to_low = None if low is None else self.gap(start, numbers[4] * self.scale)
+        to_high = self.gap(start, numbers[3] * self.scale)
         towards = self.storey.sign(slope)
         if towards == 0:
             is_between = self.storey.sign(to_high) > 0 and (to_low is None or self.storey.sign(to_low) < 0)
@@ -75,19 +84,22 @@ class Sightline:
         return directed(towards, self.flat_moment(to_low, slope), self.flat_moment(to_high, slope), slab)
 
     def product(self, one, other):
-        """The dot of two such pairs of tuples: two fractions, the plain part, and that times the root."""
-        under = (self.storey.under, 1)
-        plain = plus(dot(one[0], other[0]), times(under, dot(one[1], other[1])))
-        return (plain, plus(dot(one[0], other[1]), dot(one[1], other[0])))
+        """The dot of two pairs such as place and way."""
+        plain = whole_dot(one[0], other[0]) + self.storey.under * whole_dot(one[1], other[1])
+        return (plain, whole_dot(one[0], other[1]) + whole_dot(one[1], other[0]))
 
     def ball_span(self, leaf):
         """The stretch in a ball."""
         storey = self.storey
         middle, radius = ball_of(leaf)
-        gap = (way_between(middle, self.place[0]), self.place[1])
-        length, slant, square = self.product(self.way, self.way), self.product(self.way, gap), self.product(gap, gap)
-        numbers = whole_numbers([*length, *slant, minus(square[0], times(radius, radius)), square[1]])
-        a, b, c = (numbers[0], numbers[1]), (numbers[2], numbers[3]), (numbers[4], numbers[5])
+        # The ball is told times scale, too, and all of it times shared.
+        numbers, shared = whole_numbers([*middle, radius])
+        way = ([one * shared for one in self.way[0]], [one * shared for one in self.way[1]])
+        gap = ([at * shared - one * self.scale for at, one in zip(self.place[0], numbers[:3])],
+               [at * shared for at in self.place[1]])
+        reach = numbers[3] * self.scale
+        a, b = self.product(way, way), self.product(way, gap)
+        c = storey.plus(self.product(gap, gap), storey.lifted(-reach * reach))
         d = storey.plus(storey.times(b, b), storey.scaled(storey.times(a, c), -1))
         if storey.sign(d) <= 0:
             return None

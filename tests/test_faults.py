@@ -1,5 +1,6 @@
 """The faults of texts: each reason alone, their order, what is spoken of, and how many there may be."""
 import inspect
+import random
 import unittest
 
 from helping import Exactly, anything, lines, texts
@@ -354,6 +355,20 @@ class Kind(FaultCase):
             "1 2 3  1 2 4  1 1 0  1 -1 0", "0 0 0  1 2 3  1 1 1  2 3 5", "5 5 5  5 5 6  1 0 0  0 1 0",
         ):
             self.last_is(None, f"look b {rest} 3 4")
+
+
+    def test_looks_by_their_determinant(self):
+        source = random.Random(21)
+        flat_ones = 0
+        for turn in range(600):
+            corner, across, down = ([source.randint(-1, 1) for place in range(3)] for way in range(3))
+            (a, b, c), (d, e, f), (g, h, i) = corner, across, down
+            volume = a * e * i + b * f * g + c * d * h - c * e * g - b * d * i - a * f * h
+            flat_ones += volume == 0
+            place = [source.randint(-3, 3) for axis in range(3)]
+            numbers = place + [one + other for one, other in zip(place, corner)] + across + down
+            self.last_is("kind" if volume == 0 else None, "look b " + " ".join(map(str, numbers)) + " 3 4")
+        self.assertTrue(100 < flat_ones < 500)
 
 
 class Many(FaultCase):
