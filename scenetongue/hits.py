@@ -7,27 +7,37 @@ from scenetongue.roots import compare, is_root_number
 AT_ONCE = ((0, 1), (0, 1), (0, 1))
 
 
-def hit_along(laid, ray):
-    """The hit of a thing laid out, (name, leaves, shape), along a ray; None where there is none."""
-    name, leaves, shape = laid
-    for begin, end, at in stretches(leaves, shape, ray):
-        if end is not None and compare(end, AT_ONCE) <= 0:
-            continue
-        if begin is None or compare(begin, AT_ONCE) < 0:
-            return (name, None, None, AT_ONCE)
-        leaf, face = at
-        return (name, leaves[leaf][0], face, begin)
+def stretch_ahead(laid, ray):
+    """The first stretch of a thing laid out, (name, leaves, shape), that ends above nought, or None."""
+    for stretch in stretches(laid[1], laid[2], ray):
+        if stretch[1] is None or compare(stretch[1], AT_ONCE) > 0:
+            return stretch
     return None
 
 
-def first_along(things, ray):
-    """The first hit of things laid out, of equal ones that of the thing ahead; None where there is none."""
+def hit_along(laid, ray):
+    """The hit of a thing laid out along a ray; None where there is none."""
+    stretch = stretch_ahead(laid, ray)
+    if stretch is None:
+        return None
+    begin, at = stretch[0], stretch[2]
+    if begin is None or compare(begin, AT_ONCE) < 0:
+        return (laid[0], None, None, AT_ONCE)
+    return (laid[0], laid[1][at[0]][0], at[1], begin)
+
+
+def first_of(hits):
+    """The one with the least t of hits in the scene's order, of equal ones that ahead; None where there is none."""
     first = None
-    for laid in things:
-        hit = hit_along(laid, ray)
+    for hit in hits:
         if hit is not None and (first is None or compare(hit[3], first[3]) < 0):
             first = hit
     return first
+
+
+def first_along(things, ray):
+    """The first hit of things laid out, in the scene's order; None where there is none."""
+    return first_of([hit_along(laid, ray) for laid in things])
 
 
 def hit_of(scene, name, moment, ray):

@@ -8,7 +8,10 @@ def is_reached(things, ray, t, lamp):
     line_to_lamp = Sightline(ray, t, lamp)
     if line_to_lamp.has_no_way():
         return True
-    return not any([line_to_lamp.is_hidden_by(leaves, shape) for name, leaves, shape in things])
+    for name, leaves, shape in things:
+        if line_to_lamp.is_hidden_by(leaves, shape):
+            return False
+    return True
 
 
 def lamps_along(things, lamps, ray, t):

@@ -3,6 +3,8 @@ import copy
 import unittest
 from fractions import Fraction
 
+from scenetongue.reading import read_scene
+
 
 def fr(number):
     """A whole number, a text or a Fraction as a fraction of the program."""
@@ -33,6 +35,10 @@ def ray_of(place, way):
 
 def lines(*rows):
     return "\n".join(rows)
+
+
+def scene_of(*rows):
+    return read_scene(lines(*rows))
 
 
 class Exactly(unittest.TestCase):
