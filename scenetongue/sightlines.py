@@ -3,6 +3,7 @@
 A moment along such a way is a tuple (plain, part, under, below): plain and part times the root of under, together
 by below. part is -1, 0 or 1, the others are numbers of one storey, below above nought."""
 from scenetongue.fractions import frac, over
+from scenetongue.laying import UNTURNED
 from scenetongue.points import stretched, together
 from scenetongue.slabs import ball_of, slabs_of
 from scenetongue.spans import ALWAYS, directed, met, rows_in
@@ -68,15 +69,19 @@ class Sightline:
         towards = self.storey.sign(slope)
         return (self.storey.scaled(gap, towards), 0, self.storey.nought(), self.storey.scaled(slope, towards))
 
-    def slab_span(self, slab):
-        """The stretch between the sides of a slab."""
+    def to_sides(self, slab):
+        """What leads to the low and the high side of a slab, and the slope, all times one whole number above nought."""
         across, low, high = slab[0], slab[1], slab[2]
         # Where there is no low, high stands in its place, and isn't used.
         numbers = whole_numbers([*across, high, high if low is None else low])[0]
         start = (whole_dot(numbers[:3], self.place[0]), whole_dot(numbers[:3], self.place[1]))
         slope = (whole_dot(numbers[:3], self.way[0]), whole_dot(numbers[:3], self.way[1]))
         to_low = None if low is None else self.gap(start, numbers[4] * self.scale)
-        to_high = self.gap(start, numbers[3] * self.scale)
+        return (to_low, self.gap(start, numbers[3] * self.scale), slope)
+
+    def slab_span(self, slab):
+        """The stretch between the sides of a slab."""
+        to_low, to_high, slope = self.to_sides(slab)
         towards = self.storey.sign(slope)
         if towards == 0:
             is_between = self.storey.sign(to_high) > 0 and (to_low is None or self.storey.sign(to_low) < 0)
@@ -112,6 +117,11 @@ class Sightline:
             return self.ball_span(leaf)
         return met([self.slab_span(slab) for slab in slabs_of(leaf)], order)
 
+    def ends(self):
+        """The moments nought, at the place, and one, at the point."""
+        nought, unit = self.storey.nought(), self.storey.lifted(1)
+        return ((nought, 0, nought, unit), (unit, 0, nought, unit))
+
     def is_hidden_by(self, leaves, shape):
         """Whether what a shape makes of leaves has a stretch that has moments between 0 and 1."""
         storey = self.storey
@@ -119,11 +129,32 @@ class Sightline:
         def order(one, other):
             return order_of(storey, one, other)
 
-        nought, unit = storey.nought(), storey.lifted(1)
-        at_place, at_goal = (nought, 0, nought, unit), (unit, 0, nought, unit)
+        at_place, at_goal = self.ends()
         spans = [self.leaf_span(leaf, order) for leaf in leaves]
         for begin, end in rows_in(spans, shape, order):
             is_ahead = begin is None or order(begin[0], at_goal) < 0
             if is_ahead and (end is None or order(end[0], at_place) > 0):
                 return True
         return False
+
+    def meets(self, box):
+        """Whether it is in a closed box at a moment from 0 to 1, both of them, too."""
+        if box == ():
+            return False
+        storey = self.storey
+        begin, end = self.ends()
+        # Of the slabs between the sides of the box; those that it goes along hold it always, edges too, or never.
+        for across, low, high in zip(UNTURNED, box[0], box[1]):
+            slab = (across, low, high, None, None)
+            to_low, to_high, slope = self.to_sides(slab)
+            towards = storey.sign(slope)
+            if towards == 0:
+                if storey.sign(to_low) > 0 or storey.sign(to_high) < 0:
+                    return False
+                continue
+            span = directed(towards, self.flat_moment(to_low, slope), self.flat_moment(to_high, slope), slab)
+            if order_of(storey, span[0], begin) > 0:
+                begin = span[0]
+            if order_of(storey, span[1], end) < 0:
+                end = span[1]
+        return order_of(storey, begin, end) <= 0

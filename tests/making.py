@@ -139,3 +139,39 @@ def boxes_of(scene, moment):
 def roots_of(tree):
     kids = [kid for node in tree if node[0] == "node" for kid in node[1]]
     return [number for number in range(len(tree)) if number not in kids]
+
+
+def edited(source, rows):
+    """Lines with one change at random: mostly of a thing, at times of a lamp, of the order, or none at all."""
+    rows = list(rows)
+    shows = [at for at, row in enumerate(rows) if row.startswith("show")]
+    slides = [at for at, row in enumerate(rows) if row.startswith("slide")]
+    deed = source.choice(("slide", "slide", "slide", "colour", "mirror", "out", "in", "order", "lamp", "move", "none"))
+    if deed == "slide":
+        at = source.choice(slides)
+        numbers = [Fraction(source.randint(-4, 4), 2) for axis in range(3)]
+        rows[at] = " ".join(rows[at].split()[:3]) + " " + words(numbers)
+    elif deed == "in":
+        low = [Fraction(source.randint(-8, 8), 2) for axis in range(3)]
+        body = f"box new {words(low)} {words([one + 1 for one in low])}"
+        rows = [row for row in rows if " new " not in row]
+        rows.insert(0, body)
+        rows.insert(source.choice([at for at, row in enumerate(rows) if row.startswith(("show", "lamp"))]), "show new red")
+    elif deed == "lamp":
+        at = source.choice([at for at, row in enumerate(rows) if row.startswith("lamp")])
+        rows[at] = " ".join(rows[at].split()[:2]) + " " + words(source.randint(-5, 5) for axis in range(3))
+    elif shows and deed != "none":
+        at = source.choice(shows)
+        parts = rows[at].split()
+        if deed == "colour":
+            parts[2] = source.choice(COLOURS)
+        elif deed == "mirror":
+            parts[3:] = parts[4:] if "mirror" in parts[3:4] else ["mirror", *parts[3:]]
+        elif deed == "move":
+            parts = parts[:3] + [word for word in parts[3:4] if word == "mirror"] + ["move", *words(source.randint(-1, 1) for axis in range(3)).split()]
+        rows[at] = " ".join(parts)
+        if deed == "out":
+            del rows[at]
+        elif deed == "order":
+            rows.insert(source.choice(shows), rows.pop(at))
+    return rows
